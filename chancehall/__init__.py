@@ -1,0 +1,1 @@
+"""Chancehall: halls of doors and exact chances."""
