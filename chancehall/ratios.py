@@ -3,6 +3,9 @@
 from chancehall.errors import NoNumber
 from chancehall.wholes import divisor, is_whole
 
+NOUGHT = (0, 1)
+ONE = (1, 1)
+
 
 def ratio(top, bottom):
     """The fraction that comes of dividing top by bottom."""

@@ -33,6 +33,8 @@ METHODS = set(
     "isupper items join keys ljust lower lstrip partition pop remove replace reverse rfind rjust rpartition "
     "rsplit rstrip setdefault split splitlines startswith strip update upper values zfill bit_length".split()
 )
+FREE_VALUES = set("count index title find get join lower upper split strip copy add".split())
+NOT_USED = set("register mro elements open input version_info with_traceback add_note format format_map".split())
 WORDS = re.compile(
     r"\b(type|typing|typing_extensions|enum|Enum|IntEnum|StrEnum|Flag|IntFlag|Generic|Protocol|ABC|ABCMeta|"
     r"namedtuple|NamedTuple|TypedDict|TYPE_CHECKING|abstractmethod)\b|dataclass|overload|contextmanager"
@@ -165,6 +167,30 @@ class Code(unittest.TestCase):
         kept = {node.attr for node, place in self.each(ast.Attribute) if isinstance(node.ctx, ast.Store)}
         for node, place in self.each(ast.Attribute):
             self.assertIn(node.attr, METHODS | own | kept | UNDERSCORED, place)
+
+    def test_no_name_is_a_method_here_and_a_value_there(self):
+        methods = set()
+        for node, place in self.each(ast.ClassDef):
+            methods |= {part.name for part in node.body if isinstance(part, ast.FunctionDef)}
+        for node, place in self.each(ast.Attribute):
+            if isinstance(node.ctx, ast.Store):
+                self.assertNotIn(node.attr, methods, place)
+
+    def test_no_own_method_or_value_is_called_like_one_of_pythons_values(self):
+        taken = set()
+        for value in ["", 0, [], (), {}, set(), b""]:
+            taken |= set(dir(value))
+        for node, place in self.each(ast.ClassDef):
+            names = {part.name for part in node.body if isinstance(part, ast.FunctionDef)}
+            self.assertEqual(names & (taken - UNDERSCORED - METHODS - {"add", "discard"}), set(), place)
+        for node, place in self.each(ast.Attribute):
+            if isinstance(node.ctx, ast.Store):
+                self.assertNotIn(node.attr, taken - FREE_VALUES, place)
+
+    def test_names_that_are_not_used(self):
+        for node, place in self.each((ast.Name, ast.Attribute, ast.FunctionDef, ast.arg)):
+            for part in ["id", "attr", "name", "arg"]:
+                self.assertNotIn(getattr(node, part, ""), NOT_USED, place)
 
     def test_is_stands_beside_none_and_truths(self):
         for node, place in self.each(ast.Compare):
