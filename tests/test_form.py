@@ -192,6 +192,54 @@ class Code(unittest.TestCase):
             for part in ["id", "attr", "name", "arg"]:
                 self.assertNotIn(getattr(node, part, ""), NOT_USED, place)
 
+    def test_errors_that_are_taken_are_the_packages_own(self):
+        own = set()
+        for name, tree in trees():
+            own |= {node.name for node in ast.walk(tree) if isinstance(node, ast.ClassDef)}
+        for node, place in self.each(ast.ExceptHandler):
+            named = node.type.elts if isinstance(node.type, ast.Tuple) else [node.type]
+            for part in named:
+                self.assertIn(part.id, own | {"KeyError", "ZeroDivisionError", "StopIteration"}, place)
+        for node, place in self.each(ast.Raise):
+            self.assertIsInstance(node.exc, ast.Call, place)
+
+    def test_keywords_of_pythons_own(self):
+        allowed = {"sorted": {"key", "reverse"}, "min": {"key", "default"}, "max": {"key", "default"},
+                   "sum": {"start"}, "enumerate": {"start"}, "zip": {"strict"}}
+        for node, place in self.each(ast.Call):
+            given = {word.arg for word in node.keywords}
+            if isinstance(node.func, ast.Name) and node.func.id in OWN_NAMES:
+                self.assertLessEqual(given, allowed.get(node.func.id, set()), place)
+            if isinstance(node.func, ast.Attribute) and node.func.attr in METHODS:
+                self.assertEqual(given, set(), place)
+
+    def test_names_of_a_files_top_are_bound_once(self):
+        for name, tree in trees():
+            bound = []
+            for node in tree.body:
+                if isinstance(node, ast.Assign):
+                    bound.append(node.targets[0].id)
+                elif isinstance(node, (ast.FunctionDef, ast.ClassDef)):
+                    bound.append(node.name)
+                elif isinstance(node, ast.ImportFrom):
+                    bound += [alias.name for alias in node.names]
+            self.assertEqual(sorted(bound), sorted(set(bound)), name)
+
+    def test_walks_are_made_on_the_spot(self):
+        kept = ["zip", "enumerate", "reversed", "range", "items", "keys", "values"]
+        for name, tree in trees():
+            walked = []
+            for node in ast.walk(tree):
+                if isinstance(node, (ast.For, ast.comprehension)):
+                    walked.append(node.iter)
+                elif isinstance(node, ast.Call):
+                    walked += node.args
+            for node in ast.walk(tree):
+                if isinstance(node, ast.Call):
+                    called = getattr(node.func, "id", getattr(node.func, "attr", ""))
+                    if called in kept:
+                        self.assertIn(node, walked, f"{name}:{node.lineno}")
+
     def test_is_stands_beside_none_and_truths(self):
         for node, place in self.each(ast.Compare):
             for sign, right in zip(node.ops, node.comparators):
