@@ -1,8 +1,8 @@
 """Plans: a door for each room; and how the doors of a room look by worths."""
 
 from chancehall.errors import NoPlan
-from chancehall.levels import total
-from chancehall.ratios import plus, times
+from chancehall.levels import level, total
+from chancehall.ratios import over, plus, times
 from chancehall.wholes import is_whole
 
 
@@ -28,12 +28,16 @@ def check_plan(hall, plan):
     return True
 
 
-def look_of(hall, offer, worths):
-    """The look of one door, as the hall offers it."""
-    behind = total([times(chance, worths[room]) for room, chance in offer[2]])
-    return plus(offer[1], times(hall.share, behind))
+def raised_look(hall, offer, leveled):
+    """The look of one door, as the hall offers it, times the bottom of the worths, told as (tops, bottom)."""
+    # Worths may have thousands of figures: times their bottom no two such numbers are sought for what divides both.
+    tops = leveled[0]
+    behind = total([times(chance, (tops[room], 1)) for room, chance in offer[2]])
+    return plus(times(offer[1], (leveled[1], 1)), times(hall.share, behind))
 
 
 def looks(hall, room, worths):
     """The looks of the room's doors, in their order."""
-    return [look_of(hall, offer, worths) for offer in hall.offers(room)]
+    offered = hall.offers(room)
+    leveled = level(worths)
+    return [over(raised_look(hall, offer, leveled), (leveled[1], 1)) for offer in offered]
