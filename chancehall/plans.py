@@ -1,8 +1,8 @@
 """Plans: a door for each room; and how the doors of a room look by worths."""
 
 from chancehall.errors import NoPlan
-from chancehall.levels import level, total
-from chancehall.ratios import over, plus, times
+from chancehall.levels import level
+from chancehall.ratios import over, plus, ratio, times
 from chancehall.wholes import is_whole
 
 
@@ -28,11 +28,16 @@ def check_plan(hall, plan):
     return True
 
 
+def behind_door(offer, tops):
+    """The sum of chance times top over the ways of a door, as the hall offers it; tops has one for each room."""
+    leveled = level([chance for room, chance in offer[2]])
+    return ratio(sum([part * tops[way[0]] for part, way in zip(leveled[0], offer[2])]), leveled[1])
+
+
 def raised_look(hall, offer, leveled):
     """The look of one door, as the hall offers it, times the bottom of the worths, told as (tops, bottom)."""
     # Worths may have thousands of figures: times their bottom no two such numbers are sought for what divides both.
-    tops = leveled[0]
-    behind = total([times(chance, (tops[room], 1)) for room, chance in offer[2]])
+    behind = behind_door(offer, leveled[0])
     return plus(times(offer[1], (leveled[1], 1)), times(hall.share, behind))
 
 

@@ -10,13 +10,13 @@ def chosen_doors(hall, plan):
     return [None if door is None else hall.offers(room)[door] for room, door in enumerate(plan)]
 
 
-def left_rows(hall, chosen):
-    """For each room a row: 1 in its own column, less the share of the chances of its ways."""
-    rows = single_rows(hall.size())
+def left_rows(share, chosen):
+    """For each room a row: 1 in its own column, less the share of the chances of its door's ways."""
+    rows = single_rows(len(chosen))
     for room, offer in enumerate(chosen):
         if offer is not None:
             for behind, chance in offer[2]:
-                rows[room][behind] = minus(rows[room][behind], times(hall.share, chance))
+                rows[room][behind] = minus(rows[room][behind], times(share, chance))
     return rows
 
 
@@ -31,7 +31,7 @@ def worths_of(hall, plan):
     chosen = chosen_doors(hall, plan)
     pays = [NOUGHT if offer is None else offer[1] for offer in chosen]
     # The share is below 1, so no row comes of the others and there is just one answer.
-    return only_answer(left_rows(hall, chosen), pays)
+    return only_answer(left_rows(hall.share, chosen), pays)
 
 
 def visits_from(hall, plan, start):
@@ -39,4 +39,4 @@ def visits_from(hall, plan, start):
     check_plan(hall, plan)
     hall.check_room(start)
     begin = [ONE if room == start else NOUGHT for room in range(hall.size())]
-    return only_answer(turned(left_rows(hall, chosen_doors(hall, plan))), begin)
+    return only_answer(turned(left_rows(hall.share, chosen_doors(hall, plan))), begin)
